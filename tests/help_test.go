@@ -10,10 +10,10 @@ import (
 	"loop.example/freshet/impl"
 )
 
-// edges are numbers at and around the limits of both chapters, and as far from them as an int goes.
+// edges are numbers at and around the limits of the chapters, and as far from them as an int goes.
 var edges = []int{
 	math.MinInt, math.MinInt + 1, math.MinInt32, -1001, -1000, -121, -61, -60, -10, -9, -4, -1,
-	0, 1, 2, 3, 4, 9, 10, 40, 41, 59, 60, 61, 119, 120, 121, 899, 900, 901, 999, 1000, 1001,
+	0, 1, 2, 3, 4, 5, 9, 10, 20, 21, 40, 41, 59, 60, 61, 119, 120, 121, 899, 900, 901, 999, 1000, 1001,
 	math.MaxInt32, math.MaxInt - 1000, math.MaxInt - 1, math.MaxInt,
 }
 
@@ -81,26 +81,50 @@ func aLog(r *rand.Rand, most int) []impl.ItmItem {
 	return append(log, mark(impl.ItmEnd))
 }
 
-// guarded lays items ahead of others that nobody may touch, with room enough behind the end for an append to go wrong.
-type guarded struct {
-	whole []impl.ItmItem
-	given []impl.ItmItem
-	was   []impl.ItmItem
+// guarded lays a list ahead of others that nobody may touch, with room enough behind the end for an append to go wrong.
+type guarded[T comparable] struct {
+	whole []T
+	given []T
+	was   []T
 }
 
-func guard(items []impl.ItmItem) guarded {
-	whole := slices.Clone(items)
-	for i := range 8 {
-		whole = append(whole, impl.ItmItem{Kind: 77, T: i})
+// guard lays such a list ahead of another thing, eight times.
+func guard[T comparable](list []T, other T) guarded[T] {
+	whole := slices.Clone(list)
+	for range 8 {
+		whole = append(whole, other)
 	}
-	return guarded{whole: whole, given: whole[:len(items)], was: slices.Clone(whole)}
+	return guarded[T]{whole: whole, given: whole[:len(list)], was: slices.Clone(whole)}
 }
 
-func (g guarded) check(t *testing.T, by string) {
+func (g guarded[T]) check(t *testing.T, by string) {
 	t.Helper()
 	if !slices.Equal(g.whole, g.was) {
 		t.Fatalf("%s has written into its argument or behind its end: %v, was %v", by, g.whole, g.was)
 	}
+}
+
+// fill writes over a list, up to the end of its room.
+func fill[T any](list []T, with T) {
+	room := list[:cap(list)]
+	for i := range room {
+		room[i] = with
+	}
+}
+
+// orders is a list in all orders.
+func orders[T any](list []T) [][]T {
+	if len(list) == 0 {
+		return [][]T{nil}
+	}
+	var all [][]T
+	for i := range list {
+		rest := append(slices.Clone(list[:i]), list[i+1:]...)
+		for _, o := range orders(rest) {
+			all = append(all, append([]T{list[i]}, o...))
+		}
+	}
+	return all
 }
 
 // quiet fails a test, with the call, if the call panics.

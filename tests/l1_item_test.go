@@ -483,7 +483,7 @@ func TestLogsNothingIsWrittenIntoAnArgument(t *testing.T) {
 		case 2:
 			items = times(n%50, rec(1, 2, 3))
 		}
-		g := guard(items)
+		g := guard(items, impl.ItmItem{Kind: 77})
 		impl.LogOk(g.given)
 		g.check(t, "LogOk")
 		impl.LogPunctual(g.given, pick(r, edges))
@@ -500,13 +500,10 @@ func TestLogRecsIsNewMemory(t *testing.T) {
 		if n%2 == 0 {
 			items = times(1+n%50, rec(1, 2, 3)) // all are told: the argument itself would look the same
 		}
-		g := guard(items)
+		g := guard(items, impl.ItmItem{Kind: 77})
 		got, again := impl.LogRecs(g.given, math.MinInt), impl.LogRecs(g.given, math.MinInt)
 		was := slices.Clone(again)
-		spare := got[:cap(got)]
-		for i := range spare {
-			spare[i] = impl.ItmItem{Kind: 99}
-		}
+		fill(got, impl.ItmItem{Kind: 99})
 		g.check(t, "the owner of LogRecs' answer")
 		if !slices.Equal(again, was) {
 			t.Fatal("two answers share memory")
@@ -514,9 +511,7 @@ func TestLogRecsIsNewMemory(t *testing.T) {
 		if !slices.Equal(impl.LogRecs(g.given, math.MinInt), was) {
 			t.Fatal("something is kept between two calls")
 		}
-		for i := range g.given {
-			g.given[i] = impl.ItmItem{Kind: 98}
-		}
+		fill(g.given, impl.ItmItem{Kind: 98})
 		if !slices.Equal(again, was) {
 			t.Fatal("an answer turns with its argument")
 		}
