@@ -214,6 +214,12 @@ func recordOf(p itmPart) (ItmItem, bool) {
 	return ItmItem{}, false
 }
 
+// isRecord says whether an item is a record that is ok.
+func isRecord(x ItmItem) bool {
+	r, is := recordOf(partOf(x))
+	return is && ItmOk(r)
+}
+
 // within says whether a number is from least to most.
 func within(n int, least int, most int) bool {
 	return least <= n && n <= most

@@ -15,6 +15,10 @@ func (w WinWin) ok() bool {
 	return within(w.Start, 0, ItmMaxT) && within(w.End, w.Start+1, 2*ItmMaxT)
 }
 
+func (w WinWin) has(t int) bool {
+	return w.Start <= t && t < w.End
+}
+
 func (w WinWin) touches(o WinWin) bool {
 	return w.Start < o.End && o.Start < w.End
 }

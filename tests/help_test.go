@@ -59,11 +59,27 @@ func anyItem(r *rand.Rand) impl.ItmItem {
 }
 
 func anyItems(r *rand.Rand, most int) []impl.ItmItem {
-	items := make([]impl.ItmItem, r.Intn(most+1))
-	for i := range items {
-		items[i] = anyItem(r)
+	return several(r, most, anyItem)
+}
+
+// several is a list of at most so many, each any one.
+func several[T any](r *rand.Rand, most int, anyOne func(*rand.Rand) T) []T {
+	list := make([]T, r.Intn(most+1))
+	for i := range list {
+		list[i] = anyOne(r)
 	}
-	return items
+	return list
+}
+
+// lists is all lists of at most so many, of a few.
+func lists[T any](most int, of ...T) [][]T {
+	all := [][]T{nil}
+	for i := 0; i < len(all) && len(all[i]) < most; i++ {
+		for _, x := range of {
+			all = append(all, append(slices.Clone(all[i]), x))
+		}
+	}
+	return all
 }
 
 // aLog is a log that is ok, of at most so many items.

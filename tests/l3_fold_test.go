@@ -48,17 +48,6 @@ func someValues(r *rand.Rand, n int) []int {
 	return values
 }
 
-// valueLists is all lists of at most so many values, of a few.
-func valueLists(most int, of ...int) [][]int {
-	all := [][]int{nil}
-	for i := 0; i < len(all) && len(all[i]) < most; i++ {
-		for _, v := range of {
-			all = append(all, append(slices.Clone(all[i]), v))
-		}
-	}
-	return all
-}
-
 // isKnown says the same as AggOk, from the document's words, in numbers that do not wrap round.
 func isKnown(a impl.AggAgg) bool {
 	if a.N == 0 {
@@ -79,7 +68,7 @@ func someKnown() []impl.AggAgg {
 		{}, agg(1, 0, 0, 0), agg(1, 9, 9, 9), agg(1, -9, -9, -9), agg(1, 0, -9, 9), agg(2, 0, -9, 9), agg(2, -2, -5, 3),
 		agg(1000, 9000, 9, 9), agg(1000, -9000, -9, -9), agg(1000, 9000, -9, 9), agg(1000, -9000, -9, 9), agg(500, 0, 0, 0), agg(500, 7, -1, 8), agg(999, 0, -9, 9),
 	}
-	for _, values := range valueLists(3, -9, -1, 0, 4, 9) {
+	for _, values := range lists(3, -9, -1, 0, 4, 9) {
 		some = append(some, knownOf(values))
 	}
 	return some
@@ -342,7 +331,7 @@ func TestP67OfNone(t *testing.T) {
 }
 
 func TestP68EveryOrder(t *testing.T) {
-	for _, values := range append(valueLists(4, -9, 0, 2, 9), []int{3, -5, 3, 9, -9, 0}, []int{1, 1, 1, 1, 1, -1}) {
+	for _, values := range append(lists(4, -9, 0, 2, 9), []int{3, -5, 3, 9, -9, 0}, []int{1, 1, 1, 1, 1, -1}) {
 		want := knownOf(values)
 		for _, o := range orders(values) {
 			if got := addAll(impl.AggAgg{}, o); got != want {
