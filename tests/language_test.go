@@ -58,9 +58,30 @@ func checkFile(t *testing.T, name string, text []byte) {
 		}
 	}
 	for _, d := range file.Decls {
-		f, ok := d.(*ast.FuncDecl)
-		if ok && fset.Position(f.End()).Line-fset.Position(f.Pos()).Line >= mostLines {
-			t.Errorf("%s: %s has more than %d lines", name, f.Name.Name, mostLines)
+		switch x := d.(type) {
+		case *ast.FuncDecl:
+			if fset.Position(x.End()).Line-fset.Position(x.Pos()).Line >= mostLines {
+				t.Errorf("%s: %s has more than %d lines", name, x.Name.Name, mostLines)
+			}
+		case *ast.GenDecl:
+			if x.Tok == token.VAR {
+				checkPackageLevel(t, name, x)
+			}
 		}
 	}
+}
+
+// checkPackageLevel asks whether what stands at package level is neither a map nor a function, and made by no call.
+func checkPackageLevel(t *testing.T, name string, d *ast.GenDecl) {
+	ast.Inspect(d, func(n ast.Node) bool {
+		switch x := n.(type) {
+		case *ast.MapType, *ast.FuncType, *ast.FuncLit, *ast.ChanType:
+			t.Errorf("%s has a map, a function or a channel at package level", name)
+		case *ast.CallExpr:
+			if s, ok := x.Fun.(*ast.SelectorExpr); !ok || s.Sel.Name != "New" {
+				t.Errorf("%s has something at package level that is made by a call", name)
+			}
+		}
+		return true
+	})
 }
