@@ -742,18 +742,24 @@ func partOfFlow(f, g impl.FloFlow, at int) impl.FloFlow {
 	return f
 }
 
+// okOrNot is a flow that is ok, one that nearly is, one with a part of another one, or one of any numbers.
+func okOrNot(r *rand.Rand) impl.FloFlow {
+	f := anyFlow(r, anyJob(r))
+	switch r.Intn(4) {
+	case 0:
+		return brokenFlow(r, f)
+	case 1:
+		return anyNumbersFlow(r)
+	case 2:
+		return partOfFlow(f, pick(r, []impl.FloFlow{anyNumbersFlow(r), anyFlow(r, anyJob(r)), {}}), r.Intn(6))
+	}
+	return f
+}
+
 func TestFlowsAnswerAtEveryArgument(t *testing.T) {
 	r := fixed()
 	for range 12000 {
-		f := anyFlow(r, anyJob(r))
-		switch r.Intn(4) {
-		case 0:
-			f = brokenFlow(r, f)
-		case 1:
-			f = anyNumbersFlow(r)
-		case 2:
-			f = partOfFlow(f, pick(r, []impl.FloFlow{anyNumbersFlow(r), anyFlow(r, anyJob(r)), {}}), r.Intn(6))
-		}
+		f := okOrNot(r)
 		e := impl.EvEvent{Kind: r.Intn(9), At: pick(r, edges), In: pick(r, edges)}
 		if r.Intn(2) == 0 {
 			e.At, e.In = r.Intn(4)-1, r.Intn(5)-1

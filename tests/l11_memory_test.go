@@ -207,15 +207,8 @@ func anyRounds(r *rand.Rand) int {
 func TestRunsAnswerAtEveryArgument(t *testing.T) {
 	r := fixed()
 	for range 6000 {
-		f := anyFlow(r, anyJob(r))
-		switch r.Intn(5) {
-		case 0:
-			f = brokenFlow(r, f)
-		case 1:
-			f = anyNumbersFlow(r)
-		case 2:
-			f = partOfFlow(f, pick(r, []impl.FloFlow{anyNumbersFlow(r), anyFlow(r, anyJob(r)), {}}), r.Intn(6))
-		case 3:
+		f := okOrNot(r)
+		if r.Intn(5) == 0 {
 			f = brokenFlow(r, ended(pick(r, sizedJobs())))
 		}
 		events := several(r, 4, func(r *rand.Rand) impl.EvEvent {
